@@ -1,0 +1,1 @@
+"""Stackedputs: stores whose writes are merged ahead of their base."""
