@@ -1,6 +1,7 @@
 """Reached states: those to which the operands that clients write lead from absent."""
 
 from stackedputs.schemes import ABSENT, effect, is_integer
+from stackedputs.walks import shortest_walks
 
 
 def state_after(scheme, state, row):
@@ -9,6 +10,14 @@ def state_after(scheme, state, row):
     for operand in row:
         result = effect(scheme, operand, result)
     return result
+
+
+def states_along(scheme, state, row):
+    """Returns the list of the states before, between and after the operands of the row."""
+    states = [state]
+    for operand in row:
+        states.append(effect(scheme, operand, states[-1]))
+    return states
 
 
 def reached(scheme):
@@ -38,16 +47,4 @@ def is_way(scheme, state, value):
 
 def _shortest_ways(scheme):
     """Returns the dict from each reached state to a way to it with as few operands as can be."""
-    found = {ABSENT: ()}
-    newest = [ABSENT]
-    # Each round adds the states whose shortest ways have one operand more than the last round's.
-    while newest:
-        further = []
-        for state in newest:
-            for operand in scheme[2]:
-                result = effect(scheme, operand, state)
-                if result not in found:
-                    found[result] = found[state] + (operand,)
-                    further.append(result)
-        newest = further
-    return found
+    return shortest_walks(ABSENT, lambda state: [(a, effect(scheme, a, state)) for a in scheme[2]])

@@ -37,6 +37,21 @@ def is_scheme(value):
     return _are_written(last, written) and _are_rules(last, rules)
 
 
+def is_state(scheme, value):
+    """Accepts any value. Returns whether it is a state of the scheme."""
+    return is_integer_from(ABSENT, scheme[0] - 1, value)
+
+
+def is_operand(scheme, value):
+    """Accepts any value. Returns whether it is an operand of the scheme."""
+    return is_integer_from(0, len(scheme[1]) - 1, value)
+
+
+def is_row(scheme, value):
+    """Accepts any value. Returns whether it is a tuple of operands of the scheme."""
+    return isinstance(value, tuple) and all([is_operand(scheme, item) for item in value])
+
+
 def _are_effects(v, value):
     if not isinstance(value, tuple) or not 1 <= len(value) <= MOST_OPERANDS:
         return False
@@ -89,3 +104,11 @@ def row_effect(scheme, row):
     for operand in row:
         states = [effect(scheme, operand, state) for state in states]
     return tuple(states)
+
+
+def is_right(scheme, rule, state):
+    """Returns whether the rule leads from the state to where its two operands lead, one after the other."""
+    a, b, c = rule
+    wanted = effect(scheme, b, effect(scheme, a, state))
+    found = state if c == NOTHING else effect(scheme, c, state)
+    return found == wanted

@@ -7,6 +7,14 @@ INTERFACE = {
                 "row_effect": ["scheme", "row"]},
     "reach": {"state_after": ["scheme", "state", "row"], "reached": ["scheme"], "ways": ["scheme"],
               "way_to": ["scheme", "state"], "is_way": ["scheme", "state", "value"]},
+    "standings": {"beginning": ["scheme"], "is_standing": ["scheme", "value"], "steps": ["scheme", "standing"],
+                  "after": ["scheme", "standing", "step"], "read_now": ["scheme", "standing"],
+                  "read_held": ["scheme", "standing", "i"]},
+    "makings": {"made": ["scheme"], "row_of": ["making"], "steps_of": ["making"], "find_making": ["scheme", "k"],
+                "making_lengths": ["scheme"], "is_making": ["scheme", "k", "value"], "are_lengths": ["scheme", "value"]},
+    "books": {"find_book": ["scheme"], "find_wrong": ["scheme"], "is_book": ["scheme", "value"],
+              "is_wrong": ["scheme", "value"]},
+    "prices": {"find_prices": ["scheme"], "is_price": ["scheme", "n", "value"], "fewest_steps": ["scheme"]},
 }
 
 

@@ -2,7 +2,8 @@ import copy
 import itertools
 import unittest
 
-from samples import DOCUMENTED, FULL, LOOSE, ODD_VALUES, SWAP, TALLY, StrictCase
+from samples import DOCUMENTED, FULL, LOOSE, ODD_VALUES, SWAP, TALLY, StrictCase, all_written, with_written
+from searches import walked
 from stackedputs.reach import is_way, reached, state_after, way_to, ways
 
 # Each raise needs the one before: the way to the last value is as long as can be.
@@ -12,16 +13,6 @@ STAIRS = (4, ((-1, 1, 1, 2, 3), (0, 0, 2, 2, 3), (-1, 0, 1, 3, 3)), (0, 1, 2), (
 STUCK = (3, ((-1, 0, 1, 2), (-1, 1, 2, 0)), (0, 1), ((0, 0, 0),))
 
 
-def with_written(scheme, written):
-    return (scheme[0], scheme[1], written, scheme[3])
-
-
-def walked(scheme, state, row):
-    for operand in row:
-        state = scheme[1][operand][state + 1]
-    return state
-
-
 def tried(scheme):
     """What ways tells, by trying all tuples of written operands, the shortest ones first."""
     found = {}
@@ -29,11 +20,6 @@ def tried(scheme):
         for row in itertools.product(scheme[2], repeat=many):
             found.setdefault(walked(scheme, -1, row), many)
     return found
-
-
-def all_written(scheme):
-    operands = range(len(scheme[1]))
-    return [written for many in range(1, len(scheme[1]) + 1) for written in itertools.combinations(operands, many)]
 
 
 def small_schemes():

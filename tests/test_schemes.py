@@ -2,37 +2,13 @@ import copy
 import itertools
 import unittest
 
-from samples import BAD, DOCUMENTED, FULL, LOOSE, ODD_VALUES, OPEN, SWAP, TALLY, StrictCase, nested
+from samples import (BAD, DOCUMENTED, FULL, LOOSE, ODD_VALUES, OPEN, SWAP, TALLY, StrictCase, as_bool, as_list, as_odd,
+                     nested, replaced, with_part)
 from stackedputs.schemes import effect, is_scheme, row_effect, rule_for
 
 IDENTITY_OF_FOUR = (-1, 0, 1, 2, 3)
 SIX = (4, tuple((k,) * 5 for k in (-1, 0, 1, 2, 3)) + (IDENTITY_OF_FOUR,), (0, 1, 2, 3, 4, 5),
        tuple((a, b, b if b < 5 else a) for a in range(6) for b in range(6)))
-
-
-def with_part(scheme, at, part):
-    return scheme[:at] + (part,) + scheme[at + 1:]
-
-
-def replaced(value, change):
-    """Each value that differs from this one in one place, at any depth, as change tells."""
-    found = change(value)
-    if isinstance(value, tuple):
-        for at, item in enumerate(value):
-            found += [value[:at] + (other,) + value[at + 1:] for other in replaced(item, change)]
-    return found
-
-
-def as_list(value):
-    return [list(value)] if isinstance(value, tuple) else []
-
-
-def as_bool(value):
-    return [True, False] if isinstance(value, int) else []
-
-
-def as_odd(value):
-    return list(ODD_VALUES)
 
 
 class Examples(StrictCase):
