@@ -279,6 +279,15 @@ class IsWrong(StrictCase):
             (HOLD, (WRITE, 1), (WRITE, 1), ("let", 1), (MERGE, 0)), (SETTLE, (WRITE, 1), (WRITE, 1), (MERGE, 0)),
             (HOLD, HOLD, HOLD, HOLD, (WRITE, 1), (WRITE, 1), (MERGE, 0))], False)
 
+    def test_letting_go_of_one_of_three(self):
+        holds = (HOLD, (WRITE, 0), HOLD, (WRITE, 2), HOLD)
+        last = ((WRITE, 1), (WRITE, 1), (MERGE, 2))
+        for i in range(3):
+            self.assert_all(BAD, [holds + (("let", i),) + last], True)
+            self.assert_all(BAD, [holds + (("let", i), (WRITE, 2), (WRITE, 2), (MERGE, 2), (WRITE, 1), (WRITE, 1),
+                                           (MERGE, 3))], True)
+            self.assert_all(BAD, [holds + (("let", i), (WRITE, 2), (WRITE, 2), (MERGE, 2))], False)
+
     def test_told_histories_and_what_is_near_them(self):
         for scheme in [BAD, GONE, COUNT, LONGER_FIRST] + [scheme for scheme in random_schemes(14, 60)]:
             history = find_wrong(scheme)
@@ -329,7 +338,7 @@ class IsWrong(StrictCase):
         for step in (MERGE, (MERGE,), (MERGE, 0, 0), (0, MERGE), ("Merge", 0), ("merge ", 0), (MERGE, "0"),
                      (MERGE, (0,)), ((MERGE, 0),), (MERGE, -1), (MERGE, 1), (MERGE, False), (MERGE, None), {MERGE: 0},
                      [MERGE, 0]):
-            self.assert_all(BAD, [first + (step,)], False)
+            self.assert_all(BAD, [first + (step,), first + (step, (MERGE, 0))], False)
         for step in ("hold", (), ("hold", 0), ("hold", None), ("settle", 0), ("let",), ("let", 1), ("let", -1),
                      ("write",), ("write", 3), ("write", -1), ("write", True), ("write", 0, 0), ("read",), ("undo",),
                      None, 0, (("hold",),), ["hold"], {"hold": 0}):
