@@ -3,7 +3,7 @@
 A making of an operand is the operand, if it is written, or a tuple (operand, left, right) of it and two makings.
 """
 
-from stackedputs.schemes import NOTHING, is_integer, is_operand, rule_for
+from stackedputs.schemes import NOTHING, is_integer, is_operand, is_row, rule_for
 
 
 def made(scheme):
@@ -97,6 +97,14 @@ def keeps_joins(joins, numbers):
             if result not in numbers or numbers[result] > numbers[one] + numbers[other] + 1:
                 return False
     return True
+
+
+def is_made_row(scheme, value):
+    """Accepts any value. Returns whether it is a tuple of made operands."""
+    if not is_row(scheme, value):
+        return False
+    operands = made(scheme)
+    return all([item in operands for item in value])
 
 
 def are_numbers_of_made(scheme, low, value):

@@ -3,8 +3,9 @@
 A standing is a tuple (base, cells, holds).
 """
 
+from stackedputs.ends import merged
 from stackedputs.reach import state_after
-from stackedputs.schemes import ABSENT, NOTHING, effect, is_integer, is_integer_from, is_row, is_state, rule_for
+from stackedputs.schemes import ABSENT, effect, is_integer, is_integer_from, is_row, is_state, rule_for
 
 MOST_HOLDS = 3
 
@@ -95,9 +96,8 @@ def _may_merge(scheme, standing, k):
 
 def _after_merge(scheme, standing, k):
     base, cells, holds = standing
-    result = rule_for(scheme, cells[k], cells[k + 1])
-    left = () if result == NOTHING else (result,)
-    gone = 2 - len(left)
+    left = merged(scheme, cells, k)
+    gone = len(cells) - len(left)
     # No snapshot is held at position k + 1, so those behind k are also behind both cells.
     positions = tuple([position - gone if position > k else position for position in holds])
-    return (base, cells[:k] + left + cells[k + 2:], positions)
+    return (base, left, positions)

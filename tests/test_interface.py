@@ -11,10 +11,19 @@ INTERFACE = {
                   "after": ["scheme", "standing", "step"], "read_now": ["scheme", "standing"],
                   "read_held": ["scheme", "standing", "i"]},
     "makings": {"made": ["scheme"], "row_of": ["making"], "steps_of": ["making"], "find_making": ["scheme", "k"],
-                "making_lengths": ["scheme"], "is_making": ["scheme", "k", "value"], "are_lengths": ["scheme", "value"]},
+                "making_lengths": ["scheme"], "is_making": ["scheme", "k", "value"],
+                "are_lengths": ["scheme", "value"]},
     "books": {"find_book": ["scheme"], "find_wrong": ["scheme"], "is_book": ["scheme", "value"],
               "is_wrong": ["scheme", "value"]},
     "prices": {"find_prices": ["scheme"], "is_price": ["scheme", "n", "value"], "fewest_steps": ["scheme"]},
+    "stacks": {"open_pairs": ["scheme"], "longest_row": ["scheme"], "find_ranks": ["scheme"], "find_ring": ["scheme"],
+               "long_row": ["scheme", "n"], "is_stack": ["scheme", "value"], "is_ring": ["scheme", "value"],
+               "are_ranks": ["scheme", "value"]},
+    "ends": {"places": ["scheme", "row"], "merged": ["scheme", "row", "p"], "ends_of": ["scheme", "row"],
+             "fewest_left": ["scheme", "row"], "most_left": ["scheme", "row"], "find_merges": ["scheme", "row", "end"],
+             "are_merges": ["scheme", "row", "end", "value"]},
+    "overlaps": {"overlaps": ["scheme"], "end_alike": ["scheme"], "find_joins": ["scheme"],
+                 "find_parting": ["scheme"], "are_joins": ["scheme", "value"], "is_parting": ["scheme", "value"]},
 }
 
 
