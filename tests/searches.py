@@ -1,4 +1,4 @@
-"""What the document says of standings, makings and histories, worked out by the tests themselves, the plain way."""
+"""What the document says of standings, makings, histories and rows, worked out by the tests, the plain way."""
 
 import itertools
 
@@ -142,3 +142,51 @@ def own_reached(scheme):
 def is_right_at(scheme, rule, state):
     a, b, c = rule
     return walked(scheme, state, (a, b)) == walked(scheme, state, () if c == -1 else (c,))
+
+
+def own_open_pairs(scheme):
+    operands = own_made(scheme)
+    return [pair for pair in itertools.product(operands, repeat=2) if pair not in own_rules(scheme)]
+
+
+def own_is_stack(scheme, row):
+    return (all(type(operand) is int and operand in own_made(scheme) for operand in row)
+            and all(pair in own_open_pairs(scheme) for pair in zip(row, row[1:])))
+
+
+def own_stacks(scheme, many):
+    """All stacks of this many operands, one or more."""
+    pairs = own_open_pairs(scheme)
+    rows = [(operand,) for operand in own_made(scheme)]
+    for _ in range(many - 1):
+        rows = [row + (b,) for row in rows for a, b in pairs if a == row[-1]]
+    return rows
+
+
+def own_longest(scheme):
+    """The number of operands of a longest stack, or None if there is one with more than there are operands."""
+    pairs = own_open_pairs(scheme)
+    last = set(own_made(scheme))
+    for many in range(1, len(scheme[1]) + 1):
+        # These are the operands with which some stack of one operand more ends.
+        last = {b for a, b in pairs if a in last}
+        if not last:
+            return many
+    return None
+
+
+def own_ends(scheme, row):
+    """All ends of the row, by merging it wherever it may be, in each order."""
+    ends = set()
+    for p in range(len(row) - 1):
+        c = own_rules(scheme).get(row[p:p + 2])
+        if c is not None:
+            ends |= own_ends(scheme, row[:p] + ((c,) if c >= 0 else ()) + row[p + 2:])
+    return ends or {row}
+
+
+def own_has_book(scheme):
+    """Whether each rule of made operands is right at all reached states."""
+    operands = own_made(scheme)
+    rules = [rule for rule in scheme[3] if rule[0] in operands and rule[1] in operands]
+    return all(is_right_at(scheme, rule, state) for rule in rules for state in own_reached(scheme))

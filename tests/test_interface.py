@@ -24,6 +24,17 @@ INTERFACE = {
              "are_merges": ["scheme", "row", "end", "value"]},
     "overlaps": {"overlaps": ["scheme"], "end_alike": ["scheme"], "find_joins": ["scheme"],
                  "find_parting": ["scheme"], "are_joins": ["scheme", "value"], "is_parting": ["scheme", "value"]},
+    "choices": {"with_rules": ["scheme", "choice"], "is_good": ["scheme", "s", "choice"],
+                "find_choice": ["scheme", "s", "offer", "d"], "find_choice_book": ["scheme", "s", "offer", "d"],
+                "least_cost": ["scheme", "s", "offer"], "is_choice_book": ["scheme", "s", "offer", "d", "value"]},
+    "turns": {"turn_of": ["scheme", "row"], "turns": ["scheme"], "row_for": ["scheme", "turn"],
+              "least_count": ["scheme"], "least_scheme": ["scheme"], "is_least": ["scheme", "value"]},
+    "alike": {"alike_groups": ["scheme"], "taken_down": ["scheme"], "end_of": ["scheme", "row"],
+              "same_in_the_end": ["one", "other"], "find_table": ["one", "other"],
+              "find_parting_row": ["one", "other"], "is_table": ["one", "other", "value"],
+              "is_parting_row": ["one", "other", "value"]},
+    "snapshots": {"stretches": ["standing"], "barred": ["scheme", "standing"], "fewest_cells": ["scheme", "standing"],
+                  "most_cells": ["scheme", "h"], "fewest_lets": ["scheme", "standing", "n"]},
 }
 
 

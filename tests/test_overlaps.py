@@ -4,7 +4,7 @@ import unittest
 
 from samples import (DOCUMENTED, DOUBLINGS, FULL, LOOSE, ODD_VALUES, SWAP, TALLY, StrictCase, all_written, as_bool,
                      as_list, as_odd, random_schemes, replaced, with_written)
-from searches import own_made, own_rules
+from searches import own_ends, own_made, own_rules
 from stackedputs.ends import ends_of
 from stackedputs.overlaps import are_joins, end_alike, find_joins, find_parting, is_parting, overlaps
 
@@ -24,16 +24,6 @@ SCHEMES = DOCUMENTED + [DOUBLINGS] + ALIKE + PARTING
 def own_overlaps(scheme):
     rules, operands = own_rules(scheme), own_made(scheme)
     return [row for row in itertools.product(operands, repeat=3) if row[:2] in rules and row[1:] in rules]
-
-
-def own_ends(scheme, row):
-    """All ends of the row, by merging it wherever it may be, in each order."""
-    ends = set()
-    for p in range(len(row) - 1):
-        c = own_rules(scheme).get(row[p:p + 2])
-        if c is not None:
-            ends |= own_ends(scheme, row[:p] + ((c,) if c >= 0 else ()) + row[p + 2:])
-    return ends or {row}
 
 
 def own_joins(scheme):

@@ -5,7 +5,7 @@ import unittest
 
 from samples import (BAD, DOCUMENTED, DOUBLINGS, FULL, LOOSE, ODD_VALUES, OPEN, SWAP, TALLY, StrictCase, all_written,
                      as_bool, as_list, as_odd, random_schemes, replaced, with_rules, with_written)
-from searches import own_made, own_rules
+from searches import own_is_stack, own_longest, own_made, own_open_pairs
 from stackedputs.stacks import (are_ranks, find_ranks, find_ring, is_ring, is_stack, long_row, longest_row,
                                 open_pairs)
 
@@ -46,30 +46,8 @@ def many_schemes(seed):
     return SCHEMES + random_schemes(seed, 200) + schemes_with_nearly_all_rules(seed, 200)
 
 
-def own_open_pairs(scheme):
-    operands = own_made(scheme)
-    return [pair for pair in itertools.product(operands, repeat=2) if pair not in own_rules(scheme)]
-
-
-def own_is_stack(scheme, row):
-    return (all(type(operand) is int and operand in own_made(scheme) for operand in row)
-            and all(pair in own_open_pairs(scheme) for pair in zip(row, row[1:])))
-
-
 def holds_integers(value):
     return isinstance(value, dict) and all(type(item) is int for pair in value.items() for item in pair)
-
-
-def own_longest(scheme):
-    """The number of operands of a longest stack, or None if there is one with more than there are operands."""
-    pairs = own_open_pairs(scheme)
-    last = set(own_made(scheme))
-    for many in range(1, len(scheme[1]) + 1):
-        # These are the operands with which some stack of one operand more ends.
-        last = {b for a, b in pairs if a in last}
-        if not last:
-            return many
-    return None
 
 
 class Examples(StrictCase):
