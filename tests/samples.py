@@ -136,6 +136,15 @@ def random_schemes(seed, many):
     return [makers[at % 3](rng) for at in range(many)]
 
 
+ALL_PAIRS = list(itertools.product(range(6), repeat=2))
+
+
+def random_pairs(rng, with_rings):
+    """Up to fourteen pairs of six operands, which go round in no ring if there are to be none."""
+    pairs = ALL_PAIRS if with_rings else list(itertools.combinations(rng.sample(range(6), 6), 2))
+    return rng.sample(pairs, rng.randint(0, 14))
+
+
 # Each operand is made of two of the one before it, and all are put 0, so that each rule is right.
 DOUBLINGS = (1, ((0, 0),) * 6, (0,), tuple((k, k, k + 1) for k in range(5)))
 # The same, but the operand that goes round all five states.

@@ -3,9 +3,9 @@ import itertools
 import random
 import unittest
 
-from samples import (BAD, FULL, LOOSE, ODD_VALUES, OPEN, SWAP, TALLY, StrictCase, as_bool, as_list, as_odd, is_same,
+from samples import (BAD, FULL, LOOSE, ODD_VALUES, SWAP, TALLY, StrictCase, as_bool, as_list, as_odd, is_same,
                      random_schemes, replaced, with_written)
-from searches import own_has_book, own_is_stack, own_is_wrong, own_longest, own_rules, own_stacks
+from searches import own_has_book, own_is_stack, own_is_wrong, own_longest, own_stacks
 from stackedputs.books import find_wrong
 from stackedputs.choices import (find_choice, find_choice_book, is_choice_book, is_good, least_cost, with_rules)
 from stackedputs.schemes import rule_for

@@ -2,6 +2,8 @@ import importlib
 import inspect
 import unittest
 
+from stackedputs.stores import Store
+
 INTERFACE = {
     "schemes": {"is_scheme": ["value"], "effect": ["scheme", "operand", "state"], "rule_for": ["scheme", "a", "b"],
                 "row_effect": ["scheme", "row"]},
@@ -35,7 +37,16 @@ INTERFACE = {
               "is_parting_row": ["one", "other", "value"]},
     "snapshots": {"stretches": ["standing"], "barred": ["scheme", "standing"], "fewest_cells": ["scheme", "standing"],
                   "most_cells": ["scheme", "h"], "fewest_lets": ["scheme", "standing", "n"]},
+    "storelogs": {"store_log": ["store"], "first_store_fault": ["scheme", "keys", "value"],
+                  "is_store_log": ["scheme", "keys", "value"], "history_of": ["scheme", "keys", "log", "key"]},
+    "readers": {"final_operands": ["scheme"], "price_of": ["scheme", "row"], "greatest_price": ["scheme"],
+                "find_dear": ["scheme"], "find_read_ranks": ["scheme"], "find_dear_ring": ["scheme"],
+                "are_read_ranks": ["scheme", "value"], "is_dear_ring": ["scheme", "value"]},
+    "papers": {"text_of_scheme": ["scheme"], "read_scheme": ["text"]},
 }
+STORE = {"write": ["key", "operand"], "merge": ["key", "index"], "settle": ["key"], "compact": ["key"], "hold": [],
+         "let": ["number"], "read": ["key"], "read_held": ["number", "key"], "plain": ["key"], "standing_of": ["key"],
+         "held": [], "undo": [], "__len__": [], "__eq__": ["other"]}
 
 
 class Interface(unittest.TestCase):
@@ -46,6 +57,14 @@ class Interface(unittest.TestCase):
                 function = getattr(module, name)
                 self.assertEqual(function.__module__, "stackedputs." + file)
                 self.assertEqual(list(inspect.signature(function).parameters), parameters, name)
+
+    def test_the_methods_of_the_store_are_defined_in_the_class_itself(self):
+        self.assertEqual(Store.__module__, "stackedputs.stores")
+        self.assertEqual(list(inspect.signature(Store).parameters), ["scheme", "keys"])
+        for name, parameters in STORE.items():
+            method = vars(Store)[name]
+            self.assertTrue(inspect.isfunction(method))
+            self.assertEqual(list(inspect.signature(method).parameters), ["self", *parameters], name)
 
 
 if __name__ == "__main__":

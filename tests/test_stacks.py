@@ -3,13 +3,12 @@ import itertools
 import random
 import unittest
 
-from samples import (BAD, DOCUMENTED, DOUBLINGS, FULL, LOOSE, ODD_VALUES, OPEN, SWAP, TALLY, StrictCase, all_written,
-                     as_bool, as_list, as_odd, random_schemes, replaced, with_rules, with_written)
+from samples import (ALL_PAIRS, BAD, DOCUMENTED, DOUBLINGS, FULL, LOOSE, ODD_VALUES, OPEN, SWAP, TALLY, StrictCase,
+                     all_written, as_bool, as_list, as_odd, random_pairs, random_schemes, replaced, with_rules,
+                     with_written)
 from searches import own_is_stack, own_longest, own_made, own_open_pairs
 from stackedputs.stacks import (are_ranks, find_ranks, find_ring, is_ring, is_stack, long_row, longest_row,
                                 open_pairs)
-
-ALL_PAIRS = list(itertools.product(range(6), repeat=2))
 
 
 def six_with_open(pairs, written=(0, 1, 2, 3, 4, 5)):
@@ -34,10 +33,7 @@ def schemes_with_nearly_all_rules(seed, many):
     rng = random.Random(seed)
     schemes = []
     for at in range(many):
-        order = rng.sample(range(6), 6)
-        # Every other scheme has pairs in one order alone, and so no ring.
-        pairs = list(itertools.combinations(order, 2)) if at % 2 else ALL_PAIRS
-        pairs = rng.sample(pairs, rng.randint(0, 14))
+        pairs = random_pairs(rng, at % 2 == 0)
         schemes.append(six_with_open(pairs, tuple(sorted(rng.sample(range(6), rng.randint(1, 6))))))
     return schemes
 

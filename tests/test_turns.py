@@ -5,7 +5,7 @@ import unittest
 
 from samples import (BAD, DOCUMENTED, DOUBLINGS, FULL, LOOSE, ODD_VALUES, OPEN, ROUNDS, SWAP, TALLY, StrictCase,
                      all_written, as_bool, as_list, as_neighbour, as_odd, random_effects, random_schemes, replaced,
-                     with_part, with_rules, with_written)
+                     with_part, with_written)
 from searches import own_has_book, own_made, own_reached, own_rules, walked
 from stackedputs.schemes import is_scheme
 from stackedputs.turns import is_least, least_count, least_scheme, row_for, turn_of, turns
